@@ -1,0 +1,1 @@
+"""Figures with straight sides, told exactly, in whole numbers and fractions."""

@@ -1,0 +1,117 @@
+"""What the document says, found another way: slowly, with Python's own fractions."""
+
+from fractions import Fraction
+
+
+class Numbers:
+    """Numbers that look like chance, the same in each run."""
+
+    def __init__(self, seed):
+        self.state = seed
+
+    def below(self, bound):
+        self.state = (self.state * 6364136223846793005 + 1442695040888963407) % 2 ** 64
+        return (self.state >> 33) % bound
+
+    def corner(self, reach):
+        return (self.below(2 * reach + 1) - reach, self.below(2 * reach + 1) - reach)
+
+
+def corner_list(row):
+    return list(zip(row[0::2], row[1::2]))
+
+
+def row_of(corners):
+    return [number for corner in corners for number in corner]
+
+
+def common_ends(one, other):
+    """The stretch that two sides have in common, as its two ends; None if there is none."""
+    (ax, ay), (bx, by) = one
+    (cx, cy), (dx, dy) = other
+    ux, uy, vx, vy = bx - ax, by - ay, dx - cx, dy - cy
+    wx, wy = cx - ax, cy - ay
+    across = ux * vy - uy * vx
+    if across != 0:
+        s = Fraction(wx * vy - wy * vx, across)
+        t = Fraction(wx * uy - wy * ux, across)
+        if 0 <= s <= 1 and 0 <= t <= 1:
+            point = (ax + s * ux, ay + s * uy)
+            return point, point
+        return None
+    if ux * wy != uy * wx:
+        return None
+    # Points of one line are in the same order as the pairs of their numbers.
+    low = max(min(one), min(other))
+    high = min(max(one), max(other))
+    return (low, high) if low <= high else None
+
+
+def goes_left(corners):
+    """The lowest of the leftmost corners is never an inner one, so its turn tells the way round."""
+    k = corners.index(min(corners))
+    (ax, ay), (bx, by), (cx, cy) = corners[k - 1], corners[k], corners[(k + 1) % len(corners)]
+    return (bx - ax) * (cy - by) > (by - ay) * (cx - bx)
+
+
+def is_figure(row):
+    if len(row) not in (6, 8, 10, 12, 14, 16) or min(row) < -50 or max(row) > 50:
+        return False
+    corners = corner_list(row)
+    count = len(corners)
+    sides = [(corners[k], corners[(k + 1) % count]) for k in range(count)]
+    if any(a == b for a, b in sides):
+        return False
+    for k in range(count):
+        (ax, ay), (bx, by) = sides[k - 1]
+        (cx, cy) = sides[k][1]
+        if (bx - ax) * (cy - by) == (by - ay) * (cx - bx):
+            return False
+    for i in range(count):
+        for j in range(i):
+            allowed = None
+            if i == j + 1:
+                allowed = (corners[i], corners[i])
+            elif j == 0 and i == count - 1:
+                allowed = (corners[0], corners[0])
+            if common_ends(sides[i], sides[j]) != allowed:
+                return False
+    return goes_left(corners)
+
+
+def size_of(row):
+    """The strips between each side and the upward line through the middle, added up."""
+    corners = corner_list(row)
+    total = Fraction(0)
+    for k, (bx, by) in enumerate(corners):
+        ax, ay = corners[k - 1]
+        total += Fraction(ax + bx, 2) * (by - ay)
+    return total
+
+
+def some_figure(numbers, count, reach):
+    """A figure of so many corners: from a triangle on, corners are put in where one is left."""
+    corners = [numbers.corner(reach) for _ in range(3)]
+    while not is_figure(row_of(corners)):
+        corners = [numbers.corner(reach) for _ in range(3)]
+    tries = 0
+    while len(corners) < count:
+        k = numbers.below(len(corners) + 1)
+        grown = corners[:k] + [numbers.corner(reach)] + corners[k:]
+        if is_figure(row_of(grown)):
+            corners = grown
+        tries += 1
+        if tries > 2000:
+            return some_figure(numbers, count, reach)
+    return row_of(corners)
+
+
+def some_figures():
+    """Figures of each count of corners, in narrow room (where much lies in a line) and in wide."""
+    numbers = Numbers(1)
+    return [
+        some_figure(numbers, count, reach)
+        for count in range(3, 9)
+        for reach in (2, 3, 5, 50)
+        for _ in range(25)
+    ]
