@@ -1,4 +1,4 @@
-"""Figures with straight sides: how great they are."""
+"""Figures with straight sides: how great they are, and how they are cut up."""
 
 NOT_AS_TOLD = -22
 FEWEST_CORNERS = 3
@@ -11,6 +11,20 @@ def size(f):
     if not is_figure(f):
         return [NOT_AS_TOLD]
     return half_of(twice_size(corners_of(f)))
+
+
+def triangles(f):
+    """How many triangles figure f is cut up into, then the corners of each, or the refusal alone."""
+    if not is_figure(f):
+        return [NOT_AS_TOLD]
+    left = corners_of(f)
+    answer = [len(left) - 2]
+    while len(left) > 3:
+        k = first_ear(left)
+        answer.extend(row_of(triangle_at(left, k)))
+        left.pop(k)
+    answer.extend(row_of(left))
+    return answer
 
 
 def half_of(number):
@@ -43,6 +57,14 @@ def corners_of(f):
     return [(f[k], f[k + 1]) for k in range(0, len(f), 2)]
 
 
+def row_of(corners):
+    """The corners told as a row, two numbers each."""
+    row = []
+    for corner in corners:
+        row.extend(corner)
+    return row
+
+
 def corner_before(corners, k):
     """The corner before corner k, going round."""
     return corners[(k - 1) % len(corners)]
@@ -56,6 +78,11 @@ def corner_after(corners, k):
 def turn(a, b, c):
     """Twice the size of the triangle a, b, c: above 0 if one turns left at b, 0 if all lie in a line."""
     return (b[0] - a[0]) * (c[1] - a[1]) - (b[1] - a[1]) * (c[0] - a[0])
+
+
+def triangle_at(corners, k):
+    """The triangle of corner k: the corner before it, it, the one after."""
+    return [corner_before(corners, k), corners[k], corner_after(corners, k)]
 
 
 def turn_at(corners, k):
@@ -109,3 +136,27 @@ def lies_on_side(point, a, b):
 def is_between(number, one, other):
     """Whether the number lies from one to other, both too."""
     return min(one, other) <= number and number <= max(one, other)
+
+
+def first_ear(corners):
+    """The place of the first corner that is an ear."""
+    k = 0
+    # What has more than three corners has two ears, also where a cut has left a straight corner.
+    while not is_ear(corners, k):
+        k = k + 1
+    return k
+
+
+def is_ear(corners, k):
+    """Whether one turns left at corner k and no other corner lies in its triangle, the border too."""
+    if turn_at(corners, k) <= 0:
+        return False
+    triangle = triangle_at(corners, k)
+    count = len(corners)
+    others = [corners[(k + step) % count] for step in range(2, count - 1)]
+    return not any([lies_in_triangle(other, triangle) for other in others])
+
+
+def lies_in_triangle(point, triangle):
+    """Whether the point lies in a triangle that one goes round on the left, its border too."""
+    return all([turn(triangle[k], corner_after(triangle, k), point) >= 0 for k in range(3)])

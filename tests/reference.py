@@ -89,6 +89,35 @@ def size_of(row):
     return total
 
 
+def in_triangle(point, triangle):
+    """A point lies in a triangle just if the three triangles that it makes with its sides are no greater."""
+    a, b, c = triangle
+    parts = [abs(size_of(row_of(part))) for part in ((point, a, b), (point, b, c), (point, c, a))]
+    return sum(parts) == abs(size_of(row_of(triangle)))
+
+
+def cut_up(corners):
+    """The triangles, in order, as the document tells how they are cut off."""
+    if len(corners) == 3:
+        return [tuple(corners)]
+    for k, corner in enumerate(corners):
+        triangle = (corners[k - 1], corner, corners[(k + 1) % len(corners)])
+        others = [other for other in corners if other not in triangle]
+        if size_of(row_of(triangle)) > 0 and not any(in_triangle(other, triangle) for other in others):
+            return [triangle] + cut_up(corners[:k] + corners[k + 1:])
+    raise AssertionError("no ear is left")
+
+
+def keep_apart(one, other):
+    """Two triangles have no size in common just if a side of one of them has all of the other on its right."""
+    for first, second in ((one, other), (other, one)):
+        for k in range(3):
+            a, b = first[k - 1], first[k]
+            if all(size_of(row_of((a, b, c))) <= 0 for c in second):
+                return True
+    return False
+
+
 def some_figure(numbers, count, reach):
     """A figure of so many corners: from a triangle on, corners are put in where one is left."""
     corners = [numbers.corner(reach) for _ in range(3)]
