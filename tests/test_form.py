@@ -119,6 +119,19 @@ class Form(unittest.TestCase):
             self.assertEqual([given.arg for given in written[name].args], parameters, "L16")
             self.assertEqual(written[name].defaults, [], "L16")
 
+    def test_imports_are_drawn_from_the_file_that_defines_them(self):
+        defined = {}
+        for path, text in self.files():
+            defined["straightfigures." + path.stem] = [
+                node.name for node in ast.parse(text).body if isinstance(node, (ast.FunctionDef, ast.ClassDef))
+            ]
+        for name, node in self.nodes():
+            if isinstance(node, ast.ImportFrom):
+                for drawn in node.names:
+                    self.assertIn(drawn.name, defined[node.module], ("L16", name))
+        everything = [known for names in defined.values() for known in names]
+        self.assertEqual(len(everything), len(set(everything)), "L16")
+
     def test_the_top_of_a_module(self):
         for path, text in self.files():
             bound = []
