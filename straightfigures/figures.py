@@ -131,3 +131,28 @@ def is_ear(corners, k):
 def lies_in_triangle(point, triangle):
     """Whether the point lies in a triangle that one goes round on the left, its border too."""
     return all([turn(triangle[k], corner_after(triangle, k), point) >= 0 for k in range(3)])
+
+
+def where_lies(point, corners):
+    """2 if the point lies within what the corners go round, 1 if on its border, 0 if outside."""
+    for k in range(len(corners)):
+        if lies_on_side(point, corners[k], corner_after(corners, k)):
+            return 1
+    return 2 if times_round(point, corners) != 0 else 0
+
+
+def times_round(point, corners):
+    """How often one goes round a point that is on no side: sides that pass on its right are counted.
+
+    A side counts if it goes over the point's height, its lower end too but not its
+    upper one: so what passes through a corner at that height is counted once.
+    """
+    times = 0
+    for k in range(len(corners)):
+        a = corners[k]
+        b = corner_after(corners, k)
+        if a[1] <= point[1] and point[1] < b[1] and turn(a, b, point) > 0:
+            times = times + 1
+        if b[1] <= point[1] and point[1] < a[1] and turn(a, b, point) < 0:
+            times = times - 1
+    return times

@@ -17,32 +17,36 @@ class Untouchable(list):
 
 
 class Conduct:
-    """Mixed into a test case that has `call` (the function) and `rows` (what to hand in)."""
+    """Mixed into a test case that has `call` (the function) and `cases` (of each call the lists to hand in)."""
+
+    def ask(self, lists):
+        return self.call(*[list(row) for row in lists])
 
     def test_what_is_handed_in_is_not_changed(self):
-        for row in self.rows():
-            handed = Untouchable(row)
-            self.call(handed)
-            self.assertEqual(list(handed), row)
+        for lists in self.cases():
+            handed = [Untouchable(row) for row in lists]
+            self.call(*handed)
+            self.assertEqual([list(row) for row in handed], [list(row) for row in lists])
 
     def test_a_second_call_answers_the_same(self):
-        for row in self.rows():
-            first = self.call(list(row))
+        for lists in self.cases():
+            handed = [list(row) for row in lists]
+            first = self.call(*handed)
             kept = list(first)
             # Whoever asked may do with the answer what he likes.
             first.append("changed")
             first[0] = "changed"
-            self.assertEqual(self.call(list(row)), kept)
+            self.assertEqual(self.call(*handed), kept)
 
     def test_calls_between_change_nothing(self):
-        rows = self.rows()
-        onward = [self.call(list(row)) for row in rows]
-        backward = [self.call(list(row)) for row in reversed(rows)]
+        cases = self.cases()
+        onward = [self.ask(lists) for lists in cases]
+        backward = [self.ask(lists) for lists in reversed(cases)]
         self.assertEqual(onward, backward[::-1])
 
     def test_answers_are_lists_of_whole_numbers(self):
-        for row in self.rows():
-            answer = self.call(list(row))
+        for lists in self.cases():
+            answer = self.ask(lists)
             self.assertIs(type(answer), list)
             for number in answer:
                 self.assertIs(type(number), int)
@@ -53,9 +57,9 @@ class Conduct:
 
         printed = io.StringIO()
         with contextlib.redirect_stdout(printed), contextlib.redirect_stderr(printed):
-            for row in self.rows():
+            for lists in self.cases():
                 with mock.patch.object(builtins, "open", refuse), \
                         mock.patch.object(builtins, "input", refuse), \
                         mock.patch.object(builtins, "__import__", refuse):
-                    self.call(list(row))
+                    self.ask(lists)
         self.assertEqual(printed.getvalue(), "")

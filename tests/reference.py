@@ -108,6 +108,24 @@ def cut_up(corners):
     raise AssertionError("no ear is left")
 
 
+def lies_between(point, a, b):
+    """A point lies on a side just if it is in the room of both ends and makes no triangle with them."""
+    return all(min(p, q) <= x <= max(p, q) for x, p, q in zip(point, a, b)) and size_of(row_of((point, a, b))) == 0
+
+
+def where(row, point):
+    """Within a figure, its border too, lies what lies in one of its triangles."""
+    corners = corner_list(row)
+    if any(lies_between(point, corners[k - 1], corner) for k, corner in enumerate(corners)):
+        return 1
+    return 2 if any(in_triangle(point, triangle) for triangle in cut_up(corners)) else 0
+
+
+def point_row(point):
+    """A point told as four numbers."""
+    return [number for part in point for number in Fraction(part).as_integer_ratio()]
+
+
 def keep_apart(one, other):
     """Two triangles have no size in common just if a side of one of them has all of the other on its right."""
     for first, second in ((one, other), (other, one)):

@@ -1,4 +1,4 @@
-"""Rows that tell figures, and rows that do not, by name."""
+"""Rows that tell figures or points, and rows that do not, by name."""
 
 GREATEST = 2 ** 256 - 1
 
@@ -73,6 +73,43 @@ WRONG_WAY = {
     "corner on a side from without": [0, 0, 4, 0, 4, 4, 8, 4, 4, 2, 8, 6, 0, 6],
     "sides with a stretch in common": [0, 0, 6, 0, 6, 2, 4, 0, 2, 0, 0, 2],
     "sides with one end and a stretch in common": [0, 0, 4, 0, 4, 4, 2, 2, 4, 0, 6, 6, 0, 6],
+}
+
+# None of these tells a point.
+NOT_POINTS = {
+    "empty": [],
+    "one number": [0],
+    "two numbers": [0, 1],
+    "three numbers": [0, 1, 0],
+    "five numbers": [0, 1, 0, 1, 0],
+    "six numbers": [0, 1, 0, 1, 0, 1],
+    "two points": [0, 1, 0, 1, 1, 1, 1, 1],
+    "two thousand numbers": [0, 1] * 1000,
+    "second number 0, to the right": [1, 0, 0, 1],
+    "second number 0, up": [0, 1, 1, 0],
+    "0 over 0, to the right": [0, 0, 0, 1],
+    "0 over 0, up": [0, 1, 0, 0],
+    "second number -1, to the right": [1, -1, 0, 1],
+    "second number -1, up": [0, 1, 1, -1],
+    "both numbers below 0, to the right": [-1, -2, 0, 1],
+    "both numbers below 0, up": [0, 1, -1, -2],
+    "second number far below 0, to the right": [1, -GREATEST, 0, 1],
+    "second number far below 0, up": [0, 1, 1, -GREATEST],
+    "0 over -1": [0, -1, 0, 1],
+    "two halves": [2, 2, 0, 1],
+    "not in lowest terms, to the right": [2, 4, 0, 1],
+    "not in lowest terms, up": [0, 1, 2, 4],
+    "below 0 and not in lowest terms": [0, 1, -3, 6],
+    "whole, but not in lowest terms": [6, 3, 0, 1],
+    "great and not in lowest terms, to the right": [GREATEST - 3, GREATEST, 0, 1],
+    "great and not in lowest terms, up": [0, 1, 3 - GREATEST, GREATEST],
+    "the same great number twice": [GREATEST, GREATEST, 0, 1],
+    "0 over 2, to the right": [0, 2, 0, 1],
+    "0 over 2, up": [0, 1, 0, 2],
+    "0 over a great number": [0, GREATEST, 0, 1],
+    "first number past the bound": [GREATEST + 1, 1, 0, 1],
+    "first number past the bound below 0": [0, 1, -GREATEST - 1, 1],
+    "second number past the bound": [0, 1, 1, GREATEST + 1],
 }
 
 

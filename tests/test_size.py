@@ -100,9 +100,9 @@ class SizeConduct(conduct.Conduct, unittest.TestCase):
     def call(self, row):
         return size(row)
 
-    def rows(self):
-        figures = [row for row, answer in samples.FIGURES.values()]
-        return figures + [row for name, row in samples.not_figures()]
+    def cases(self):
+        figures = [[row] for row, answer in samples.FIGURES.values()]
+        return figures + [[row] for name, row in samples.not_figures()]
 
 
 if __name__ == "__main__":

@@ -139,9 +139,9 @@ class TrianglesConduct(conduct.Conduct, unittest.TestCase):
     def call(self, row):
         return triangles(row)
 
-    def rows(self):
-        figures = [row for row, whole in samples.FIGURES.values()]
-        return figures + [row for name, row in samples.not_figures()]
+    def cases(self):
+        figures = [[row] for row, whole in samples.FIGURES.values()]
+        return figures + [[row] for name, row in samples.not_figures()]
 
 
 if __name__ == "__main__":
