@@ -1,16 +1,23 @@
-"""Figures with straight sides, and points beside them, exactly: the calls, and what they know of fractions."""
+"""Figures with straight sides, and pieces of them, exactly: the calls, and what they know of fractions and pieces.
 
-from straightfigures.figures import corners_of, first_ear, is_figure, row_of, triangle_at, twice_size, where_lies
+A point of a piece is reckoned with as three whole numbers (right, up, parts): it lies
+right / parts to the right and up / parts up, with parts 1 or more.
+"""
+
+from straightfigures.figures import corner_after, corners_of, first_ear, is_figure, row_of
+from straightfigures.figures import triangle_at, twice_size, where_lies
 
 NOT_AS_TOLD = -22
 MOST_BITS = 256
+FEWEST_CORNERS_OF_PIECE = 3
+MOST_CORNERS_OF_PIECE = 40
 
 
 def size(f):
     """How great figure f is: the two numbers of a fraction, or the refusal alone."""
     if not is_figure(f):
         return [NOT_AS_TOLD]
-    return half_of(twice_size(corners_of(f)))
+    return fraction(twice_size(corners_of(f)), 2)
 
 
 def triangles(f):
@@ -34,6 +41,13 @@ def where1(f, z):
     # Measured in parts of z's own fractions all is whole numbers; to stretch both ways changes no answer.
     corners = [(corner[0] * z[1], corner[1] * z[3]) for corner in corners_of(f)]
     return [where_lies((z[0], z[2]), corners)]
+
+
+def meet(p, q):
+    """The corners of what pieces p and q have in common: how many, then each, or the refusal alone."""
+    if not is_piece(p) or not is_piece(q):
+        return [NOT_AS_TOLD]
+    return told_piece(in_common(points_of(p), points_of(q)))
 
 
 def is_point(z):
@@ -62,8 +76,112 @@ def common_factor(one, other):
     return one
 
 
-def half_of(number):
-    """Half a whole number, as a fraction in lowest terms."""
-    if number % 2 == 0:
-        return [number // 2, 1]
-    return [number, 2]
+def fraction(upper, lower):
+    """The fraction upper / lower, told in lowest terms; lower is 1 or more."""
+    common = common_factor(upper, lower)
+    return [upper // common, lower // common]
+
+
+def is_piece(p):
+    """Whether the row p tells a piece that may be handed in."""
+    if len(p) % 4 != 0:
+        return False
+    if len(p) < 4 * FEWEST_CORNERS_OF_PIECE or len(p) > 4 * MOST_CORNERS_OF_PIECE:
+        return False
+    if not holds_fractions(p):
+        return False
+    corners = points_of(p)
+    # This also tells that one goes round only once, and that no two corners lie at one place.
+    return all([others_on_left(corners, k) for k in range(len(corners))])
+
+
+def others_on_left(corners, k):
+    """Whether all corners but its ends lie on the left of the side that begins at corner k."""
+    line = line_of_side(corners, k)
+    count = len(corners)
+    return all([over_line(line, corners[(k + step) % count]) > 0 for step in range(2, count)])
+
+
+def points_of(p):
+    """The corners that the row p tells, as points."""
+    return [point_of(p[k], p[k + 1], p[k + 2], p[k + 3]) for k in range(0, len(p), 4)]
+
+
+def point_of(right, right_parts, up, up_parts):
+    """The point that two fractions tell."""
+    return lowest_point(right * up_parts, up * right_parts, right_parts * up_parts)
+
+
+def lowest_point(right, up, parts):
+    """The point in the fewest parts, so that the numbers don't grow from cut to cut."""
+    common = common_factor(up, common_factor(right, parts))
+    return (right // common, up // common, parts // common)
+
+
+def line_of_side(corners, k):
+    """The line through corner k and the next, as the three numbers that over_line takes."""
+    a = corners[k]
+    b = corner_after(corners, k)
+    return (a[1] * b[2] - a[2] * b[1], a[2] * b[0] - a[0] * b[2], a[0] * b[1] - a[1] * b[0])
+
+
+def over_line(line, point):
+    """Above 0 if the point lies on the left of the line, 0 if on it, below 0 if on its right."""
+    return line[0] * point[0] + line[1] * point[1] + line[2] * point[2]
+
+
+def in_common(one, other):
+    """The corners of what two pieces have in common, none if that has no size."""
+    left = one
+    for k in range(len(other)):
+        left = part_on_left(left, line_of_side(other, k))
+    return left
+
+
+def part_on_left(corners, line):
+    """The corners of the part of a piece that lies on the left of the line, none if that has no size.
+
+    Where no corner is straight, a line that has corners on both its sides crosses the
+    border at two places, so no cut leaves a straight corner, or two corners at one place.
+    """
+    over = [over_line(line, corner) for corner in corners]
+    if max(over, default=0) <= 0:
+        return []
+    kept = []
+    for k in range(len(corners)):
+        here = over[k]
+        there = over[(k + 1) % len(corners)]
+        if here >= 0:
+            kept.append(corners[k])
+        if here * there < 0:
+            kept.append(point_between(corners[k], abs(here), corner_after(corners, k), abs(there)))
+    return kept
+
+
+def point_between(a, a_over, b, b_over):
+    """Where a line is crossed between a and b, which lie so far over it on either side."""
+    right = a[0] * b_over + b[0] * a_over
+    up = a[1] * b_over + b[1] * a_over
+    parts = a[2] * b_over + b[2] * a_over
+    return lowest_point(right, up, parts)
+
+
+def told_piece(corners):
+    """How many corners a piece has, then these, from the leftmost on, of like ones the lowest."""
+    first = 0
+    for k in range(len(corners)):
+        if comes_first(corners[k], corners[first]):
+            first = k
+    answer = [len(corners)]
+    for corner in corners[first:] + corners[:first]:
+        answer.extend(fraction(corner[0], corner[2]))
+        answer.extend(fraction(corner[1], corner[2]))
+    return answer
+
+
+def comes_first(one, other):
+    """Whether one point lies further to the left than the other, or as far and lower."""
+    farther = one[0] * other[2] - other[0] * one[2]
+    if farther != 0:
+        return farther < 0
+    return one[1] * other[2] < other[1] * one[2]

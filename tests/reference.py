@@ -121,11 +121,6 @@ def where(row, point):
     return 2 if any(in_triangle(point, triangle) for triangle in cut_up(corners)) else 0
 
 
-def point_row(point):
-    """A point told as four numbers."""
-    return [number for part in point for number in Fraction(part).as_integer_ratio()]
-
-
 def keep_apart(one, other):
     """Two triangles have no size in common just if a side of one of them has all of the other on its right."""
     for first, second in ((one, other), (other, one)):
@@ -162,3 +157,64 @@ def some_figures():
         for reach in (2, 3, 5, 50)
         for _ in range(25)
     ]
+
+
+def fractions_of(row):
+    """The points that a row of fractions tells."""
+    parts = [Fraction(upper, lower) for upper, lower in zip(row[0::2], row[1::2])]
+    return corner_list(parts)
+
+
+def hull(points):
+    """What lies between all of the points: its corners, from the leftmost on, of like ones the lowest."""
+    points = sorted(set(points))
+    halves = []
+    for order in (points, points[::-1]):
+        half = []
+        for point in order:
+            while len(half) > 1 and size_of(row_of((half[-2], half[-1], point))) <= 0:
+                half.pop()
+            half.append(point)
+        halves.append(half[:-1])
+    return halves[0] + halves[1]
+
+
+def is_piece(row):
+    """A piece is what lies between all of its corners, and each of them is one of that, in order."""
+    if len(row) not in range(12, 161, 4) or max(map(abs, row)) >= 2 ** 256:
+        return False
+    pairs = zip(row[0::2], row[1::2])
+    if not all(lower > 0 and Fraction(upper, lower).as_integer_ratio() == (upper, lower) for upper, lower in pairs):
+        return False
+    corners = fractions_of(row)
+    k = corners.index(min(corners))
+    return len(set(corners)) > 2 and hull(corners) == corners[k:] + corners[:k]
+
+
+def in_piece(point, corners):
+    """2 if the point lies strictly within the piece, 1 if on its border, 0 if outside."""
+    if not corners:
+        return 0
+    heights = [size_of(row_of((corners[k - 1], corner, point))) for k, corner in enumerate(corners)]
+    return 0 if min(heights) < 0 else 1 if min(heights) == 0 else 2
+
+
+def common_corners(one, other):
+    """What two pieces have in common lies between the corners of each in the other and where their sides meet."""
+    points = [corner for corner in one if in_piece(corner, other)]
+    points += [corner for corner in other if in_piece(corner, one)]
+    for i, a in enumerate(one):
+        for j, b in enumerate(other):
+            points += common_ends((one[i - 1], a), (other[j - 1], b)) or ()
+    corners = hull([(Fraction(right), Fraction(up)) for right, up in points])
+    return corners if len(corners) > 2 else []
+
+
+def some_piece(numbers, reach, parts, most):
+    """What lies between some points in a room, as a row; it begins with any corner."""
+    while True:
+        points = [numbers.corner(reach * parts) for _ in range(3 + numbers.below(most))]
+        corners = hull([(Fraction(right, parts), Fraction(up, parts)) for right, up in points])
+        if len(corners) > 2:
+            k = numbers.below(len(corners))
+            return corners[k:] + corners[:k]

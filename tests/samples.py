@@ -1,4 +1,6 @@
-"""Rows that tell figures or points, and rows that do not, by name."""
+"""Rows that tell figures, points or pieces, and rows that do not, by name."""
+
+from fractions import Fraction
 
 GREATEST = 2 ** 256 - 1
 
@@ -113,14 +115,106 @@ NOT_POINTS = {
 }
 
 
-def begun_later(row, k):
-    """The same corners in the same order, begun k corners later."""
-    return row[2 * k:] + row[:2 * k]
+def point_row(point):
+    """A point told as four numbers."""
+    return [number for part in point for number in Fraction(part).as_integer_ratio()]
 
 
-def begun_anywhere(row):
+def piece_row(corners):
+    """Corners told as four numbers each; they may be given as a text."""
+    if isinstance(corners, str):
+        corners = [corner.split() for corner in corners.split(",")]
+    return [number for corner in corners for number in point_row(corner)]
+
+
+# Pieces, as texts: of each corner how far to the right, how far up.
+PIECES = {
+    "small triangle": "0 0, 1 0, 0 1",
+    "triangle aslant": "-1/2 1/3, 5/4 -2/7, 3 7/2",
+    "square": "0 0, 2 0, 2 2, 0 2",
+    "square, begun with another corner": "2 2, 0 2, 0 0, 2 0",
+    "square on its corner": "1 -1/2, 5/2 1, 1 5/2, -1/2 1",
+    "five corners": "1/2 0, 3 -1, 4 2, 2 7/2, 0 3/2",
+    "eight corners": "1 0, 2 0, 3 1, 3 2, 2 3, 1 3, 0 2, 0 1",
+}
+
+# Three to forty corners, each of two fractions, that go wrong; so they do from whichever corner one begins.
+WRONG_ROUND = {
+    "triangle on the right": "0 0, 0 1, 1 0",
+    "square on the right": "0 0, 0 2, 2 2, 2 0",
+    "eight corners on the right": "0 1, 0 2, 1 3, 2 3, 3 2, 3 1, 2 0, 1 0",
+    "all in a line": "0 0, 1 1, 2 2",
+    "all in a line, there and back": "0 0, 3 0, 1 0, 2 0",
+    "all at one place": "1/2 1/3, 1/2 1/3, 1/2 1/3",
+    "straight corner": "0 0, 1 0, 2 0, 0 2",
+    "straight corner aslant": "0 0, 3 0, 2 1/3, 0 1",
+    "straight corner on an upright side": "0 0, 2 0, 2 1/2, 2 2, 0 2",
+    "corner that turns back": "0 0, 4 0, 2 0, 2 3",
+    "spike outwards": "0 0, 2 0, 2 2, 3 3, 2 2, 0 2",
+    "two corners at one place, one after the other": "0 0, 2 0, 2 0, 0 2",
+    "two corners at one place, apart": "0 0, 2 -1, 2 1, 0 0, -2 1, -2 -1",
+    "two corners at one place, there and back": "0 0, 1 0, 0 0, 0 1",
+    "inner corner": "0 0, 4 0, 1 1, 0 4",
+    "inner corner by a hair": "0 0, 2 0, 1 999/1000, 0 2",
+    "inner corner, six corners": "0 0, 3 0, 3 1, 1 1, 1 3, 0 3",
+    "four corners that cross": "0 0, 2 0, 0 2, 2 2",
+    "triangle gone round twice": "0 0, 4 0, 0 4, 0 0, 4 0, 0 4",
+    "square gone round twice": "0 0, 2 0, 2 2, 0 2, 0 0, 2 0, 2 2, 0 2",
+    "five corners, all to the left, twice round": "0 3, -2 -3, 3 1, -3 1, 2 -3",
+    "seven corners, all to the left, twice round": "0 0, 9 0, 9 9, 1 9, 1 1, 8 1, 0 8",
+    "eight corners, all to the left, thrice round": "1 0, 3 2, 0 2, 2 0, 2 3, 0 1, 3 1, 1 3",
+    "square in a square, twice round": "0 0, 9 0, 9 9, 1 9, 1 1, 8 1, 8 8, 0 8",
+}
+
+
+def curve(count):
+    """So many corners, a piece but for their count if they are too few or too many."""
+    return piece_row([(k, k * k) for k in range(count)])
+
+
+def wrongly_told(row):
+    """The same corners, but for one fraction that is told in a form that isn't allowed."""
+    rows = []
+    for k in range(0, len(row), 2):
+        upper, lower = row[k], row[k + 1]
+        for pair in (
+            [2 * upper, 2 * lower], [3 * upper, 3 * lower], [-upper, -lower], [upper, -lower], [upper, 0], [0, 0],
+            [upper * 2 ** 254, lower * 2 ** 254], [upper + 2 ** 256 * lower, lower], [1, 2 ** 256],
+        ):
+            rows.append(row[:k] + pair + row[k + 2:])
+    return rows
+
+
+def not_pieces():
+    """Each row that is no piece, with its name."""
+    square = piece_row(PIECES["square"])
+    rows = [
+        ("empty", []),
+        ("one corner", square[:4]),
+        ("two corners", square[:8]),
+        ("forty-one corners", curve(41)),
+        ("eighty corners", curve(80)),
+        ("two thousand numbers", curve(500)),
+        ("two thousand numbers at one place", [0, 1] * 1000),
+    ]
+    rows.extend(("%d numbers" % count, (square + square)[:count]) for count in (1, 2, 3, 5, 6, 7, 9, 10, 11))
+    rows.extend(("%d numbers" % count, square[:count]) for count in (13, 14, 15))
+    rows.extend(("forty corners, and more", curve(41)[:count]) for count in (161, 162, 163))
+    for name in ("small triangle", "triangle aslant", "square on its corner"):
+        rows.extend((name + ", wrongly told", row) for row in wrongly_told(piece_row(PIECES[name])))
+    for name, text in WRONG_ROUND.items():
+        rows.extend((name, turned) for turned in begun_anywhere(piece_row(text), 4))
+    return rows
+
+
+def begun_later(row, k, numbers=2):
+    """The same corners in the same order, of so many numbers each, begun k corners later."""
+    return row[numbers * k:] + row[:numbers * k]
+
+
+def begun_anywhere(row, numbers=2):
     """The row begun with each of its corners."""
-    return [begun_later(row, k) for k in range(len(row) // 2)]
+    return [begun_later(row, k, numbers) for k in range(len(row) // numbers)]
 
 
 def not_figures():

@@ -76,7 +76,7 @@ def along(a, b, part):
 
 class WhereTest(unittest.TestCase):
     def check(self, row, point, answer):
-        z = reference.point_row(point)
+        z = samples.point_row(point)
         self.assertEqual(where1(list(row), z), [answer], (row, z))
 
 
