@@ -109,6 +109,18 @@ def is_between(number, one, other):
     return min(one, other) <= number and number <= max(one, other)
 
 
+def cut_up(corners):
+    """The triangles that a figure is cut up into, in order: its ears, then the three corners left."""
+    left = list(corners)
+    cut = []
+    while len(left) > 3:
+        k = first_ear(left)
+        cut.append(triangle_at(left, k))
+        left.pop(k)
+    cut.append(left)
+    return cut
+
+
 def first_ear(corners):
     """The place of the first corner that is an ear."""
     k = 0

@@ -4,8 +4,7 @@ A point of a piece is reckoned with as three whole numbers (right, up, parts): i
 right / parts to the right and up / parts up, with parts 1 or more.
 """
 
-from straightfigures.figures import corner_after, corners_of, first_ear, is_figure, row_of
-from straightfigures.figures import triangle_at, twice_size, where_lies
+from straightfigures.figures import corner_after, corners_of, cut_up, is_figure, row_of, twice_size, where_lies
 
 NOT_AS_TOLD = -22
 MOST_BITS = 256
@@ -24,13 +23,10 @@ def triangles(f):
     """How many triangles figure f is cut up into, then the corners of each, or the refusal alone."""
     if not is_figure(f):
         return [NOT_AS_TOLD]
-    left = corners_of(f)
-    answer = [len(left) - 2]
-    while len(left) > 3:
-        k = first_ear(left)
-        answer.extend(row_of(triangle_at(left, k)))
-        left.pop(k)
-    answer.extend(row_of(left))
+    cut = cut_up(corners_of(f))
+    answer = [len(cut)]
+    for triangle in cut:
+        answer.extend(row_of(triangle))
     return answer
 
 
