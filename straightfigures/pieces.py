@@ -7,6 +7,7 @@ right / parts to the right and up / parts up, with parts 1 or more.
 from straightfigures.figures import corner_after, corners_of, cut_up, is_figure, row_of, twice_size, where_lies
 
 NOT_AS_TOLD = -22
+MAKE_NONE = -33
 MOST_BITS = 256
 FEWEST_CORNERS_OF_PIECE = 3
 MOST_CORNERS_OF_PIECE = 40
@@ -44,6 +45,16 @@ def meet(p, q):
     if not is_piece(p) or not is_piece(q):
         return [NOT_AS_TOLD]
     return told_piece(in_common(points_of(p), points_of(q)))
+
+
+def joined(p, q):
+    """The corners of the piece that pieces p and q make: how many, then each, or the refusal alone."""
+    if not is_piece(p) or not is_piece(q):
+        return [NOT_AS_TOLD]
+    corners = made_of_both(points_of(p), points_of(q))
+    if len(corners) == 0:
+        return [MAKE_NONE]
+    return told_piece(corners)
 
 
 def is_point(z):
@@ -162,6 +173,33 @@ def point_between(a, a_over, b, b_over):
     return lowest_point(right, up, parts)
 
 
+def made_of_both(one, other):
+    """The corners of the piece that two pieces make, none if they make none.
+
+    A line parts two pieces that have nothing in common. If they make a piece, that line
+    cuts it in two, and the cut is a whole side of either; so nothing else is looked for.
+    """
+    for i in range(len(one)):
+        for j in range(len(other)):
+            if one[i] == corner_after(other, j) and corner_after(one, i) == other[j]:
+                # The ends of the side in common come with the one; the other begins and ends with them.
+                return without_straight(begun_with(one, i + 1) + begun_with(other, j + 1)[1:-1])
+    return []
+
+
+def begun_with(corners, k):
+    """The same corners in the same order, begun with corner k."""
+    return corners[k:] + corners[:k]
+
+
+def without_straight(corners):
+    """The corners of a border less the straight ones, none at all if there is an inner one."""
+    turns = [over_line(line_of_side(corners, k - 1), corner_after(corners, k)) for k in range(len(corners))]
+    if min(turns) < 0:
+        return []
+    return [corners[k] for k in range(len(corners)) if turns[k] > 0]
+
+
 def told_piece(corners):
     """How many corners a piece has, then these, from the leftmost on, of like ones the lowest."""
     first = 0
@@ -169,7 +207,7 @@ def told_piece(corners):
         if comes_first(corners[k], corners[first]):
             first = k
     answer = [len(corners)]
-    for corner in corners[first:] + corners[:first]:
+    for corner in begun_with(corners, first):
         answer.extend(fraction(corner[0], corner[2]))
         answer.extend(fraction(corner[1], corner[2]))
     return answer

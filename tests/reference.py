@@ -210,6 +210,26 @@ def common_corners(one, other):
     return corners if len(corners) > 2 else []
 
 
+def made_of_both(one, other):
+    """What lies between all corners of two pieces that have nothing in common, if it is just as great as both."""
+    if common_corners(one, other):
+        return []
+    corners = hull(one + other)
+    both = size_of(row_of(one)) + size_of(row_of(other))
+    return corners if size_of(row_of(corners)) == both else []
+
+
+def across(corners, i, j):
+    """The two pieces that a cut from corner i to corner j leaves of a piece."""
+    i, j = sorted((i, j))
+    return corners[i:j + 1], corners[j:] + corners[:i + 1]
+
+
+def along(a, b, part):
+    """The point of the line from a to b that lies so far on the way."""
+    return tuple(p + (q - p) * part for p, q in zip(a, b))
+
+
 def some_piece(numbers, reach, parts, most):
     """What lies between some points in a room, as a row; it begins with any corner."""
     while True:
@@ -218,3 +238,33 @@ def some_piece(numbers, reach, parts, most):
         if len(corners) > 2:
             k = numbers.below(len(corners))
             return corners[k:] + corners[:k]
+
+
+def circle(count):
+    """So many points of the circle round the middle, one after the other on the left."""
+    steps = [Fraction(2 * k - count + 1, 8) for k in range(count)]
+    return [((1 - t * t) / (1 + t * t), 2 * t / (1 + t * t)) for t in steps]
+
+
+def great_circle(count):
+    """The same, all but a hair, with numbers just below 2 to the power 256."""
+    corners = []
+    for k, corner in enumerate(circle(count)):
+        lower = 2 ** 256 - 1 - 2 * k
+        corners.append(tuple(Fraction(int(part * lower), lower) for part in corner))
+    return corners
+
+
+def great_pieces(numbers, count):
+    """Pieces of which each number is just below 2 to the power 256, or nearly."""
+    pieces = []
+    while len(pieces) < count:
+        points = []
+        for _ in range(3 + numbers.below(6)):
+            right, up = numbers.corner(3)
+            lowers = [2 ** 254 - 1 - numbers.below(1000) for _ in range(2)]
+            points.append((Fraction(right * lowers[1] + 1, lowers[0]), Fraction(up * lowers[0] - 1, lowers[1])))
+        corners = hull(points)
+        if len(corners) > 2:
+            pieces.append(corners)
+    return pieces

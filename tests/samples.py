@@ -127,6 +127,12 @@ def piece_row(corners):
     return [number for corner in corners for number in point_row(corner)]
 
 
+def answer_of(corners):
+    """What is answered as a piece: how many corners, then these; they may be given as a text."""
+    row = piece_row(corners) if corners else []
+    return [len(row) // 4] + row
+
+
 # Pieces, as texts: of each corner how far to the right, how far up.
 PIECES = {
     "small triangle": "0 0, 1 0, 0 1",

@@ -6,6 +6,7 @@ from fractions import Fraction
 
 from straightfigures.pieces import meet
 from tests import conduct, reference, samples
+from tests.samples import answer_of
 
 GREATEST = samples.GREATEST
 
@@ -78,31 +79,6 @@ NOTHING = {
     "a slanting side": ("0 0, 4 0, 0 4", "4 0, 4 4, 0 4"),
     "a stretch of a slanting side": ("0 0, 4 0, 0 4", "5 -1, 5 9, 2 2"),
 }
-
-
-def answer_of(corners):
-    row = samples.piece_row(corners) if corners else []
-    return [len(row) // 4] + row
-
-
-def on_circle(t):
-    """A point of the circle round the middle; the greater t, the further round on the left."""
-    return ((1 - t * t) / (1 + t * t), 2 * t / (1 + t * t))
-
-
-def great_pieces(numbers, count):
-    """Pieces of which each number is just below 2 to the power 256, or nearly."""
-    pieces = []
-    while len(pieces) < count:
-        points = []
-        for _ in range(3 + numbers.below(6)):
-            right, up = numbers.corner(3)
-            lowers = [2 ** 254 - 1 - numbers.below(1000) for _ in range(2)]
-            points.append((Fraction(right * lowers[1] + 1, lowers[0]), Fraction(up * lowers[0] - 1, lowers[1])))
-        corners = reference.hull(points)
-        if len(corners) > 2:
-            pieces.append(corners)
-    return pieces
 
 
 class MeetTest(unittest.TestCase):
@@ -260,7 +236,7 @@ class VeryGreatNumbers(MeetTest):
                    answer_of([(-hair / (2 + hair), 0), (0, -hair / 2), (0, 0)]))
 
     def test_some_pieces(self):
-        pieces = great_pieces(reference.Numbers(9), 24)
+        pieces = reference.great_pieces(reference.Numbers(9), 24)
         great = [abs(number).bit_length() for corners in pieces for number in samples.piece_row(corners)]
         self.assertEqual(max(great), 256)
         met = [self.check_by_reference(one, other) for one, other in itertools.combinations(pieces, 2)]
@@ -278,15 +254,12 @@ class ManyCorners(MeetTest):
         self.assertEqual(meet(samples.curve(41), list(strip)), [-22])
 
     def test_eighty_corners_are_left_of_forty_and_forty(self):
-        corners = [on_circle(Fraction(2 * k - 79, 8)) for k in range(80)]
+        corners = reference.circle(80)
         common = self.check_by_reference(corners[0::2], corners[1::2])
         self.assertEqual(len(common), 80)
 
     def test_forty_and_forty_with_very_great_numbers(self):
-        corners = []
-        for k in range(80):
-            lower = GREATEST - 2 * k
-            corners.append(tuple(Fraction(int(part * lower), lower) for part in on_circle(Fraction(2 * k - 79, 8))))
+        corners = reference.great_circle(80)
         common = self.check_by_reference(corners[0::2], corners[1::2])
         self.assertEqual(len(common), 80)
 

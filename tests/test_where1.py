@@ -6,6 +6,7 @@ from fractions import Fraction
 
 from straightfigures.pieces import where1
 from tests import conduct, reference, samples
+from tests.reference import along
 
 GREATEST = samples.GREATEST
 
@@ -67,11 +68,6 @@ def point_of(text):
 def sides_of(row):
     corners = reference.corner_list(row)
     return [(corner, corners[(k + 1) % len(corners)]) for k, corner in enumerate(corners)]
-
-
-def along(a, b, part):
-    """The point of the line from a to b that lies so far on the way."""
-    return tuple(p + (q - p) * part for p, q in zip(a, b))
 
 
 class WhereTest(unittest.TestCase):
