@@ -57,6 +57,19 @@ def joined(p, q):
     return told_piece(corners)
 
 
+def inside(f, p):
+    """1 if all of piece p lies in figure f, else 0, then how much of it does, a fraction; or the refusal alone."""
+    if not is_figure(f) or not is_piece(p):
+        return [NOT_AS_TOLD]
+    piece = points_of(p)
+    # The triangles have nothing in common, so nothing of the piece is counted twice.
+    held = size_of_all([in_common(piece, whole_points(triangle)) for triangle in cut_up(corners_of(f))])
+    # What is as great as the piece leaves no room in it for a point outside.
+    answer = [1 if held == size_of_all([piece]) else 0]
+    answer.extend(held)
+    return answer
+
+
 def is_point(z):
     """Whether the row z tells a point."""
     return len(z) == 4 and holds_fractions(z)
@@ -125,6 +138,11 @@ def lowest_point(right, up, parts):
     return (right // common, up // common, parts // common)
 
 
+def whole_points(corners):
+    """Corners in whole numbers, as points."""
+    return [(corner[0], corner[1], 1) for corner in corners]
+
+
 def line_of_side(corners, k):
     """The line through corner k and the next, as the three numbers that over_line takes."""
     a = corners[k]
@@ -171,6 +189,22 @@ def point_between(a, a_over, b, b_over):
     up = a[1] * b_over + b[1] * a_over
     parts = a[2] * b_over + b[2] * a_over
     return lowest_point(right, up, parts)
+
+
+def size_of_all(pieces):
+    """How great all of the pieces are together, told as a fraction."""
+    parts = 1
+    for corners in pieces:
+        for corner in corners:
+            parts = parts * (corner[2] // common_factor(parts, corner[2]))
+    # Measured in such parts all corners are whole numbers, and only the sum is brought to lowest terms.
+    twice = sum([twice_size(in_parts(corners, parts)) for corners in pieces])
+    return fraction(twice, 2 * parts * parts)
+
+
+def in_parts(corners, parts):
+    """Points told in so many parts, as corners in whole numbers; each point's own parts go into them."""
+    return [(corner[0] * (parts // corner[2]), corner[1] * (parts // corner[2])) for corner in corners]
 
 
 def made_of_both(one, other):

@@ -219,6 +219,54 @@ def made_of_both(one, other):
     return corners if size_of(row_of(corners)) == both else []
 
 
+def sides_of(corners):
+    return [(corner, corners[(k + 1) % len(corners)]) for k, corner in enumerate(corners)]
+
+
+def heights(corners, right):
+    """Where the border goes over an upright line that goes through no corner, from below upwards, by twos."""
+    ups = []
+    for (ax, ay), (bx, by) in sides_of(corners):
+        if min(ax, bx) < right < max(ax, bx):
+            ups.append(ay + (by - ay) * Fraction(right - ax) / (bx - ax))
+    ups.sort()
+    return list(zip(ups[0::2], ups[1::2]))
+
+
+def strips(figure, piece):
+    """Upright strips in which no corner lies and no sides cross: of each its width and its middle."""
+    rights = {Fraction(right) for right, up in figure + piece}
+    for one in sides_of(figure):
+        for other in sides_of(piece):
+            rights.update(Fraction(right) for right, up in common_ends(one, other) or ())
+    rights = sorted(rights)
+    return [(high - low, (low + high) / 2) for low, high in zip(rights, rights[1:])]
+
+
+def held(figure, piece):
+    """How much of a piece lies in a figure: of each strip, its width times what it holds in its middle."""
+    total = Fraction(0)
+    for width, middle in strips(figure, piece):
+        for low, high in heights(piece, middle):
+            for under, over in heights(figure, middle):
+                total += width * max(0, min(high, over) - max(low, under))
+    return total
+
+
+def point_outside(figure, piece):
+    """A point strictly within the piece that lies outside the figure; None if there is none."""
+    for width, middle in strips(figure, piece):
+        for low, high in heights(piece, middle):
+            ends = [low]
+            for under, over in heights(figure, middle):
+                ends += [min(max(end, low), high) for end in (under, over)]
+            ends.append(high)
+            for under, over in zip(ends[0::2], ends[1::2]):
+                if under < over:
+                    return (middle, (under + over) / 2)
+    return None
+
+
 def across(corners, i, j):
     """The two pieces that a cut from corner i to corner j leaves of a piece."""
     i, j = sorted((i, j))

@@ -115,7 +115,10 @@ class Form(unittest.TestCase):
     def test_the_interface_is_written_in_pieces(self):
         tree = ast.parse((PACKAGE / "pieces.py").read_text(encoding="utf-8"))
         written = {node.name: node.args for node in tree.body if isinstance(node, ast.FunctionDef)}
-        calls = {"size": ["f"], "triangles": ["f"], "where1": ["f", "z"], "meet": ["p", "q"], "joined": ["p", "q"]}
+        calls = {
+            "size": ["f"], "triangles": ["f"], "where1": ["f", "z"], "meet": ["p", "q"], "joined": ["p", "q"],
+            "inside": ["f", "p"],
+        }
         for name, parameters in calls.items():
             self.assertEqual([given.arg for given in written[name].args], parameters, "L16")
             self.assertEqual(written[name].defaults, [], "L16")

@@ -254,9 +254,8 @@ class VeryGreatNumbers(JoinedTest):
     def test_great_corners(self):
         self.check([(0, 0), (GREATEST, 0), (0, GREATEST)], [(0, 0), (0, GREATEST), (-GREATEST, 0)],
                    [3, -GREATEST, 1, 0, 1, GREATEST, 1, 0, 1, 0, 1, GREATEST, 1])
-        self.check([(-GREATEST, -GREATEST), (GREATEST, -GREATEST), (GREATEST, GREATEST)],
-                   [(-GREATEST, -GREATEST), (GREATEST, GREATEST), (-GREATEST, GREATEST)],
-                   answer_of([(-GREATEST, -GREATEST), (GREATEST, -GREATEST), (GREATEST, GREATEST), (-GREATEST, GREATEST)]))
+        room = [(-GREATEST, -GREATEST), (GREATEST, -GREATEST), (GREATEST, GREATEST), (-GREATEST, GREATEST)]
+        self.check(room[:3], [room[0], room[2], room[3]], answer_of(room))
 
     def test_straight_corner_or_inner_by_a_hair(self):
         one = [(0, 0), (1, 0), (0, 1)]

@@ -66,8 +66,7 @@ def point_of(text):
 
 
 def sides_of(row):
-    corners = reference.corner_list(row)
-    return [(corner, corners[(k + 1) % len(corners)]) for k, corner in enumerate(corners)]
+    return reference.sides_of(reference.corner_list(row))
 
 
 class WhereTest(unittest.TestCase):
